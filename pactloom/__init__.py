@@ -1,0 +1,1 @@
+"""Pactloom: protocols written once for all parties, and the machines that carry them out."""

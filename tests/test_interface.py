@@ -1,0 +1,26 @@
+"""The names and arguments that the document's interface lists, each in its own file."""
+
+import importlib
+import inspect
+import unittest
+
+FUNCTIONS = {
+    "tokens": {"tokenize": ["text"]},
+    "reading": {"read_book": ["text"]},
+    "printing": {"print_body": ["body"], "print_pact": ["pact"], "print_book": ["book"]},
+}
+
+
+class TestInterface(unittest.TestCase):
+    def test_functions_stand_in_their_files_with_their_arguments(self):
+        for file, functions in FUNCTIONS.items():
+            module = importlib.import_module("pactloom." + file)
+            for name, arguments in functions.items():
+                function = getattr(module, name)
+                self.assertTrue(inspect.isfunction(function), name)
+                self.assertEqual(function.__module__, "pactloom." + file)
+                self.assertEqual(list(inspect.signature(function).parameters), arguments)
+
+
+if __name__ == "__main__":
+    unittest.main()
