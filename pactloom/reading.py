@@ -97,7 +97,7 @@ class Reader:
     def step_begins(self):
         """Tells whether the next token is one with which a step begins."""
         kind, signs, _ = self.tokens[self.place]
-        return kind == "name" or (kind == "word" and signs in STEP_WORDS)
+        return kind == "name" or signs in STEP_WORDS
 
     def read_step(self):
         """Returns the tree of a step."""
