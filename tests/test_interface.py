@@ -8,6 +8,18 @@ FUNCTIONS = {
     "tokens": {"tokenize": ["text"]},
     "reading": {"read_book": ["text"]},
     "printing": {"print_body": ["body"], "print_pact": ["pact"], "print_book": ["book"]},
+    "linking": {"link": ["book", "name"]},
+    "meaning": {
+        "may_end": ["body"], "steps_of": ["body"], "is_run": ["body", "actions"], "is_complete": ["body", "actions"],
+    },
+    "tables": {
+        "graph_of": ["body"], "table_of": ["body"], "least": ["table"], "difference": ["one", "other"],
+        "walk": ["table", "actions"],
+    },
+    "views": {
+        "parties_of": ["table"], "view": ["actions", "party"], "machine_of": ["table", "party"],
+        "hide": ["table", "party"], "fits": ["table", "actions"],
+    },
 }
 
 
