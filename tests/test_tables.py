@@ -153,6 +153,18 @@ class TestTables(unittest.TestCase):
         self.assertEqual(table_of(body),
                          ("table", (((x, 1), (y, 2)), ((y, 3),), (), ((x, 2),)), (False, False, True, False)))
 
+    def test_a_set_of_states_is_one_state_in_whatever_order_it_is_found(self):
+        one, two = letters("a b x1"), letters("a b x2")
+        early, late = X + two, (("choice", (X + one,)),)
+        zz, yy = letters("b a z"), letters("b a y")
+        table = table_of((("choice", (zz + early, zz + late, yy + one, yy + two)),))
+        self.assertEqual(table, ("table", (
+            ((yy[0][1:], 1), (zz[0][1:], 2)),
+            ((one[0][1:], 3), (two[0][1:], 3)),
+            ((AX, 1),),
+            (),
+        ), (False, False, False, True)))
+
     def test_equal_rests_are_one_state(self):
         self.assertEqual(len(table_of((("choice", (X + Y, Y + Y)),))[1]), 3)
         # These two rests have the same runs, but the table of a body does not look at runs.

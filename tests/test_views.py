@@ -162,6 +162,15 @@ class TestMachines(unittest.TestCase):
                 machine_of(table, "a")
             self.assertEqual(machine_of(table, "d"), EMPTY)
 
+    def test_a_set_of_states_counts_once_in_whatever_order_it_is_found(self):
+        x, y, u = act("a b x"), act("a b y"), act("b c u")
+        rows = tuple(((x, state + 1),) for state in range(297))
+        # From the state 297, x leads to 298 and y to 299; b and c lead from each of these to the other.
+        rows += (((x, 298), (y, 299)), ((x, 300), (u, 299)), ((u, 298),), ())
+        table = ("table", rows, (False,) * 300 + (True,))
+        self.assertEqual(len(machine_of(table, "a")[1]), 300)
+        self.assertEqual(len(hide(table, "c")[1]), 300)
+
     def test_sets_of_states_count_ahead_of_making_the_table_least(self):
         self.assertEqual(machine_of(ring(300), "a"), ring(1))
         with self.assertRaises(TooLarge):
