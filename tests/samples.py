@@ -15,6 +15,21 @@ def letters(*texts):
     return tuple(letter(text) for text in texts)
 
 
+def choice(*bodies):
+    """The body of one choice."""
+    return (("choice", bodies),)
+
+
+def both(*bodies):
+    """The body of one both."""
+    return (("both", bodies),)
+
+
+def loop(body):
+    """The body of one loop."""
+    return (("loop", body),)
+
+
 def act(text):
     """The action that "a b x" tells."""
     return tuple(text.split())

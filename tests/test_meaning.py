@@ -4,24 +4,12 @@ import unittest
 from oracle import is_beginning, is_whole, letters_in, lists_of, sorted_firsts
 from pactloom.meaning import is_complete, is_run, may_end, steps_of
 from pactloom.printing import print_body
-from samples import act, acts, letter, letters, random_bodies
+from samples import act, acts, both, choice, letter, letters, loop, random_bodies
 
 X = letters("a b x")
 Y = letters("b a y")
 Z = letters("a c z")
 AX, AY, AZ = act("a b x"), act("b a y"), act("a c z")
-
-
-def choice(*bodies):
-    return (("choice", bodies),)
-
-
-def both(*bodies):
-    return (("both", bodies),)
-
-
-def loop(body):
-    return (("loop", body),)
 
 
 class TestRuns(unittest.TestCase):

@@ -3,24 +3,12 @@ import unittest
 
 from oracle import fault_of_form, letters_in, lists_of, states_behind
 from pactloom.errors import TooLarge
-from pactloom.tables import difference, least, table_of, walk
+from pactloom.tables import least, table_of, walk
 from pactloom.views import fits, hide, machine_of, parties_of, view
-from samples import act, acts, letters, random_bodies
+from samples import act, acts, both, choice, letters, loop, random_bodies
 
 EMPTY = ("table", ((),), (True,))
 ACTIONS = [("a", "b", "x"), ("b", "a", "x"), ("b", "c", "x"), ("c", "a", "y"), ("c", "d", "x")]
-
-
-def choice(*bodies):
-    return (("choice", bodies),)
-
-
-def both(*bodies):
-    return (("both", bodies),)
-
-
-def loop(body):
-    return (("loop", body),)
 
 
 def chain(actions):
