@@ -4,6 +4,7 @@ from pactloom.errors import TooLarge
 from pactloom.meaning import may_end, printed_steps_of
 from pactloom.numbering import moves_together, number_states
 from pactloom.printing import print_body
+from pactloom.searching import first_found
 
 MOST_STATES = 300
 
@@ -88,23 +89,20 @@ def _number_alike(keys):
 
 def difference(one, other):
     """Returns None if two tables have the same runs and complete runs, otherwise a kind and a list of actions."""
-    # Pairs are met in the order of the shortest and least lists that lead to them, so the first fault is the one.
-    met = [((0, 0), None, None)]
-    seen = set()
-    seen.add((0, 0))
-    at = 0
-    while at < len(met):
-        left, right = met[at][0]
-        if left is None or right is None:
-            return ("run", _list_to(met, at))
-        if one[2][left] != other[2][right]:
-            return ("whole", _list_to(met, at))
-        for action, pair in _pairs_behind(one[1][left], other[1][right]):
-            if pair not in seen:
-                seen.add(pair)
-                met.append((pair, at, action))
-        at += 1
-    return None
+    _, rows, ends = one
+    _, other_rows, other_ends = other
+
+    def moves_of(states):
+        return _pairs_behind(rows[states[0]], other_rows[states[1]])
+
+    def is_fault(states):
+        return None in states or ends[states[0]] != other_ends[states[1]]
+
+    found = first_found((0, 0), moves_of, is_fault)
+    if found is None:
+        return None
+    states, actions = found
+    return ("run" if None in states else "whole", actions)
 
 
 def _pairs_behind(row, other_row):
@@ -113,17 +111,6 @@ def _pairs_behind(row, other_row):
     other_targets = dict(other_row)
     actions = sorted(set(targets) | set(other_targets))
     return [(action, (targets.get(action), other_targets.get(action))) for action in actions]
-
-
-def _list_to(met, at):
-    """Returns the list of the actions by which the pair at this place was met."""
-    actions = []
-    while at > 0:
-        _, ahead, action = met[at]
-        actions.append(action)
-        at = ahead
-    actions.reverse()
-    return actions
 
 
 def walk(table, actions):

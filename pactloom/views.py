@@ -14,6 +14,11 @@ def parties_of(table):
     return sorted(found)
 
 
+def senders_at(table, state):
+    """Returns the list of the senders of the actions at a state, in ascending order."""
+    return sorted(set([action[0] for action, _ in table[1][state]]))
+
+
 def takes_part(party, action):
     """Tells whether a party is the sender or the taker of an action."""
     return party in action[:2]
@@ -27,6 +32,11 @@ def view(actions, party):
 def machine_of(table, party):
     """Returns the machine of a party: the least table of its views."""
     return _least_seen(table, lambda action: takes_part(party, action))
+
+
+def machines_of(table):
+    """Returns the dict from all parties of a table, in ascending order, to their machines."""
+    return {party: machine_of(table, party) for party in parties_of(table)}
 
 
 def hide(table, party):

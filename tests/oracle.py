@@ -156,3 +156,99 @@ def fault_of_form(table):
     for _ in rows:
         alive |= {at for at, row in enumerate(rows) if ends[at] or any(to in alive for _, to in row)}
     return None if len(alive) == len(rows) else "a state from which no end is reached"
+
+
+def seen_by(party):
+    """A test that tells the actions in which a party takes part."""
+    return lambda action: party in (action[0], action[1])
+
+
+def everyone(table):
+    """The parties of a table, in ascending order."""
+    return sorted({name for row in table[1] for action, _ in row for name in action[:2]})
+
+
+def states_seen(table, run, party):
+    """All states to which runs lead that look like this run to the party."""
+    return states_behind(table, list(filter(seen_by(party), run)), seen_by(party))
+
+
+def machine_has(table, run, party, action):
+    """Does the machine of the party, after its view of the run, have the action (point 18)?"""
+    return seen_by(party)(action) and any(action in dict(table[1][at]) for at in states_seen(table, run, party))
+
+
+def machine_rests(table, run, party):
+    """May the machine of the party rest after its view of the run?"""
+    return any(table[2][at] for at in states_seen(table, run, party))
+
+
+def state_behind(table, run):
+    """The state to which the run leads, None if it is no run."""
+    state = 0
+    for action in run:
+        state = dict(table[1][state]).get(action)
+        if state is None:
+            return None
+    return state
+
+
+def is_stray(table, run, action):
+    """Point 21."""
+    state = state_behind(table, run)
+    return (state is not None and action not in dict(table[1][state])
+            and all(machine_has(table, run, party, action) for party in action[:2]))
+
+
+def is_idle(table, run):
+    """Point 22."""
+    state = state_behind(table, run)
+    return (state is not None and not table[2][state]
+            and all(machine_rests(table, run, action[0]) for action, _ in table[1][state]))
+
+
+def is_unready(table, run, action):
+    """Point 23."""
+    state = state_behind(table, run)
+    return (state is not None and action not in dict(table[1][state])
+            and machine_has(table, run, action[0], action))
+
+
+def look_alike(one, other, party):
+    """Do two runs have the same view for the party?"""
+    return list(filter(seen_by(party), one)) == list(filter(seen_by(party), other))
+
+
+def certificate_holds(table, certificate):
+    """Points 26 and 27: does everything hold that the certificate says?"""
+    kind, run, *parts = certificate
+    if kind == "idle":
+        return is_idle(table, run) and others_hold(table, run, parts[0])
+    action, *others = parts
+    is_fault = is_stray if kind == "stray" else is_unready
+    return is_fault(table, run, action) and all(
+        look_alike(run, other, party) and state_behind(table, other + [action]) is not None
+        for party, other in zip(action[:2], others)
+    )
+
+
+def others_hold(table, run, others):
+    """Point 26: are these the complete runs of an idle certificate?"""
+    senders = {action[0] for action, _ in table[1][state_behind(table, run)]}
+    return [party for party, _ in others] == sorted(senders) and all(
+        look_alike(run, other, party) and state_behind(table, other) is not None
+        and table[2][state_behind(table, other)] for party, other in others
+    )
+
+
+def situations(table):
+    """Runs, one for each thing that all parties together may have seen: for faults, they stand for all runs."""
+    runs = [[]]
+    met = set()
+    for run in runs:
+        state = state_behind(table, run)
+        place = (state, *(frozenset(states_seen(table, run, party)) for party in everyone(table)))
+        if place not in met:
+            met.add(place)
+            runs += [run + [action] for action, _ in table[1][state]]
+    return runs

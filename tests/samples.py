@@ -2,6 +2,9 @@
 
 import random
 
+from pactloom.errors import TooLarge
+from pactloom.tables import table_of
+
 ACTIONS = [("a", "b", "x"), ("a", "b", "y"), ("b", "a", "x"), ("b", "c", "x"), ("c", "a", "z")]
 
 
@@ -62,6 +65,18 @@ def random_bodies(seed, many, depth=2, actions=ACTIONS):
     return [random_body(chance, depth, actions) for _ in range(many)]
 
 
+def small_bodies(seed, many, depth=2, actions=ACTIONS, most=12):
+    """Those of many bodies whose tables have few states."""
+    small = []
+    for body in random_bodies(seed, many, depth, actions):
+        try:
+            if len(table_of(body)[1]) <= most:
+                small.append(body)
+        except TooLarge:
+            pass
+    return small
+
+
 def random_book(seed):
     """A book of several pacts that use one another."""
     chance = random.Random(seed)
@@ -76,3 +91,37 @@ def random_book(seed):
         chance.shuffle(body)
         book.append(("pact", f"p{number}", parties, tuple(body)))
     return book
+
+
+def random_tables(seed, many, actions=ACTIONS, most=6):
+    """Many tables that need not come from bodies, the same for the same seed."""
+    chance = random.Random(seed)
+    return [random_table(chance, chance.randrange(1, most + 1), actions) for _ in range(many)]
+
+
+def random_table(chance, many, actions):
+    """A table of at most so many states."""
+    rows = [{} for _ in range(many)]
+    for row in rows:
+        for action in chance.sample(actions, chance.choice([0, 1, 1, 2, 2, 3])):
+            row[action] = chance.randrange(many)
+    ends = [chance.randrange(3) == 0 for _ in rows]
+    return trimmed(rows, ends)
+
+
+def trimmed(rows, ends):
+    """The table of these rows, dicts from actions to states, without the states that lead to no end."""
+    alive = set()
+    for _ in rows:
+        alive |= {at for at, row in enumerate(rows) if ends[at] or alive & set(row.values())}
+    if 0 not in alive:
+        return ("table", ((),), (True,))
+    found = [0]
+    new_rows = []
+    for state in found:
+        kept = [(action, rows[state][action]) for action in sorted(rows[state]) if rows[state][action] in alive]
+        for _, target in kept:
+            if target not in found:
+                found.append(target)
+        new_rows.append(tuple((action, found.index(target)) for action, target in kept))
+    return ("table", tuple(new_rows), tuple(ends[state] for state in found))

@@ -20,6 +20,10 @@ FUNCTIONS = {
         "parties_of": ["table"], "view": ["actions", "party"], "machine_of": ["table", "party"],
         "hide": ["table", "party"], "fits": ["table", "actions"],
     },
+    "joining": {"joint_states": ["table"]},
+    "checking": {"check": ["table"], "unready": ["table"]},
+    "judging": {"judge": ["table", "certificate"]},
+    "journals": {"record": ["kind", "other", "label", "number"], "read_records": ["text"]},
 }
 
 
