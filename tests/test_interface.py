@@ -24,6 +24,30 @@ FUNCTIONS = {
     "checking": {"check": ["table"], "unready": ["table"]},
     "judging": {"judge": ["table", "certificate"]},
     "journals": {"record": ["kind", "other", "label", "number"], "read_records": ["text"]},
+    "parties": {"recover": ["name", "machine", "journal"]},
+    "plays": {"play_of": ["table"]},
+    "refining": {
+        "refining_fault": ["first", "second", "party"],
+        "judge_refining": ["first", "second", "party", "certificate"],
+    },
+}
+
+# The arguments of a class are those of its __init__.
+CLASSES = {
+    "parties": {
+        "Party": {
+            "__init__": ["name", "machine"], "post": ["taker", "label"], "withdraw": [], "again": [], "take": ["sender"],
+            "hear": ["message"], "can": [], "rests": [], "waits": [], "offers": [], "at": [], "journal": [],
+        },
+    },
+    "plays": {
+        "Play": {
+            "__init__": ["machines"], "do": ["move"], "net": [], "taken": [], "names": [], "can": ["party"],
+            "rests": ["party"], "waits": ["party"], "at": ["party"], "journal": ["party"], "at_rest": [],
+            "settle": ["numbers"], "quieten": [], "offer": ["sender", "taker", "label"],
+        },
+    },
+    "watching": {"Watch": {"__init__": ["table"], "see": ["action"], "seen": []}},
 }
 
 
@@ -36,6 +60,15 @@ class TestInterface(unittest.TestCase):
                 self.assertTrue(inspect.isfunction(function), name)
                 self.assertEqual(function.__module__, "pactloom." + file)
                 self.assertEqual(list(inspect.signature(function).parameters), arguments)
+
+    def test_methods_stand_in_their_classes_with_their_arguments(self):
+        for file, classes in CLASSES.items():
+            module = importlib.import_module("pactloom." + file)
+            for name, methods in classes.items():
+                self.assertEqual(getattr(module, name).__module__, "pactloom." + file)
+                for method, arguments in methods.items():
+                    function = vars(getattr(module, name))[method]
+                    self.assertEqual(list(inspect.signature(function).parameters), ["self"] + arguments, method)
 
 
 if __name__ == "__main__":

@@ -162,6 +162,21 @@ class TestJudge(unittest.TestCase):
         self.assertIs(judge(table_of(letters("a b x")), ("fine",)), False)
         self.assertIs(judge(table_of(letters("a b x", "c d x")), ("fine",)), False)
 
+    def test_tuples_that_are_no_certificates(self):
+        table = table_of(letters("a b x", "c d x"))
+        stray, other = check(table), unready(table)
+        self.assertIs(judge(table, stray), True)
+        self.assertIs(judge(table, other), True)
+        for certificate in [stray[:-1], stray + ([],), ("unready",) + stray[1:], ("idle",) + stray[1:],
+                            other[:-1], other + ([],), ("stray",) + other[1:], ("idle",) + other[1:],
+                            ("wayward",) + stray[1:], ("fine",) + stray[1:], ("late",) + other[1:], ("stray",), ("idle",)]:
+            self.assertIs(judge(table, certificate), False)
+        table = table_of(choice(letters("a b x"), letters("c b x")))
+        idle = check(table)
+        self.assertIs(judge(table, idle), True)
+        for certificate in [idle[:-1], idle + ([],), ("lazy",) + idle[1:], ("stray",) + idle[1:], ("unready",) + idle[1:]]:
+            self.assertIs(judge(table, certificate), False)
+
     def test_a_certificate_for_another_table(self):
         certificate = check(table_of(letters("a b x", "c d x")))
         for body in [(), letters("a b x"), letters("c d x"), letters("c d x", "a b x"), letters("a b x", "b c x", "c d x")]:
