@@ -2,7 +2,7 @@
 
 import random
 
-from oracle import everyone, state_behind
+from oracle import state_behind
 from pactloom.checking import check
 from pactloom.linking import link
 from pactloom.reading import read_book

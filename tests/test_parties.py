@@ -4,8 +4,8 @@ import unittest
 from pactloom.errors import NotPossible, PactError
 from pactloom.journals import record
 from pactloom.parties import Party, recover
-from players import Plain, chances, random_act, random_machines, random_message, table_from, told
 from pactloom.views import machine_of
+from players import Plain, chances, random_act, random_machines, random_message, table_from, told
 
 # What b sees: it asks a or c, or hears from them.
 TABLE = table_from("loop {choice {b -> a: x; a -> b: y | b -> c: x; c -> b: y | a -> b: x | a -> b: z | c -> b: x; b -> a: z}}")
@@ -184,6 +184,12 @@ class TestHearing(unittest.TestCase):
         self.assertEqual(party.hear(("letter", "a", "b", 5, "x")), [])
         self.assertEqual(party.offers(), {"a": "x"})
 
+    def test_numbers_begin_behind_zero(self):
+        party = party_b()
+        self.assertEqual(party.hear(("letter", "a", "b", 0, "x")), [("gone", "a", "b", 0)])
+        self.assertEqual(party.hear(("back", "a", "b", 0)), [("gone", "a", "b", 0)])
+        self.assertEqual(told(party), told(party_b()))
+
     def test_a_back_that_comes_first(self):
         party = party_b()
         self.assertEqual(party.hear(("back", "a", "b", 1)), [("gone", "a", "b", 1)])
@@ -281,6 +287,13 @@ class TestCan(unittest.TestCase):
         machine = (("table", (((("b", "a", "z"), 0), (("b", "c", "a"), 0), (("b", "c", "x1"), 0)),), (False,)))
         self.assertEqual(Party("b", machine).can(), [("post", "a", "z"), ("post", "c", "a"), ("post", "c", "x1")])
         self.assertIs(Party("b", machine).rests(), False)
+
+    def test_actions_of_others_in_its_machine(self):
+        party = Party("c", table_from("a -> b: x; b -> c: x"))
+        party.hear(("letter", "a", "c", 1, "x"))
+        self.assertEqual(party.can(), [])
+        with self.assertRaises(NotPossible):
+            party.take("a")
 
     def test_nothing_while_it_waits(self):
         party = party_b()

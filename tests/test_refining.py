@@ -9,7 +9,7 @@ from pactloom.refining import judge_refining, refining_fault
 from pactloom.tables import table_of
 from pactloom.views import machines_of
 from players import accepted_tables, chances, play_on, random_machines, table_from
-from samples import act, acts, choice, letters, loop, random_tables
+from samples import act, acts, choice, letters, loop
 
 X, Y, TAKE_X, TAKE_Y = act("a b x"), act("a b y"), act("b a x"), act("b a y")
 REST = ("table", ((),), (True,))

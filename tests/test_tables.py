@@ -7,7 +7,7 @@ from pactloom.errors import TooLarge
 from pactloom.meaning import may_end, steps_of
 from pactloom.printing import print_body
 from pactloom.tables import difference, graph_of, least, table_of, walk
-from samples import act, acts, letters, random_bodies
+from samples import act, letters, random_bodies
 
 X = letters("a b x")
 Y = letters("b a y")

@@ -52,6 +52,10 @@ class TestWatch(unittest.TestCase):
         self.assertEqual(watched(table, acts("c d y")), [("breach", None)])
         self.assertEqual(watched(table, acts("a b x", "c d x", "c d x")), [None, None, ("breach", "c")])
 
+    def test_a_label_that_is_the_name_of_a_party(self):
+        table = table_of(choice(letters("a b x"), letters("a b y", "c d a")))
+        self.assertEqual(watched(table, acts("a b x", "c d a")), [None, ("breach", None)])
+
     def test_names_that_are_no_parties(self):
         table = table_of(letters("a b x"))
         for action, breaker in [("e b x", "e"), ("e f x", "e"), ("e a x", "e"), ("a e x", "a")]:
