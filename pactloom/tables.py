@@ -44,14 +44,16 @@ def table_of(body):
     places = {text: place for place, text in enumerate(texts)}
     rows = [[(action, places[rest]) for action, rest, _ in steps[text]] for text in texts]
     ends = [may_end(bodies[text]) for text in texts]
-    start = (places[print_body(body)],)
-    found, found_rows = number_states(start, lambda states: moves_together(rows, states), MOST_STATES)
-    return ("table", found_rows, ends_of_sets(found, ends))
+    return table_of_sets((places[print_body(body)],), lambda states: moves_together(rows, states), ends)
 
 
-def ends_of_sets(sets, ends):
-    """Returns for each set of states whether one of them is an end."""
-    return tuple([any([ends[state] for state in states]) for states in sets])
+def table_of_sets(start, moves_of, ends):
+    """Returns the table whose states are the sets of states, tuples in ascending order, that are found from start.
+
+    moves_of tells for a set the pairs of an action and the next set; ends tells for each state whether it is an end.
+    """
+    sets, rows = number_states(start, moves_of, MOST_STATES)
+    return ("table", rows, tuple([any([ends[state] for state in states]) for states in sets]))
 
 
 def least(table):

@@ -1,7 +1,7 @@
 """What single parties see of a table: their views of its runs, and their machines."""
 
-from pactloom.numbering import moves_together, number_states
-from pactloom.tables import MOST_STATES, ends_of_sets, least, walk
+from pactloom.numbering import moves_together
+from pactloom.tables import least, table_of_sets, walk
 
 
 def parties_of(table):
@@ -65,8 +65,7 @@ def _least_seen(table, is_seen):
     def moves_of(states):
         return [(action, _closed(targets, unseen)) for action, targets in moves_together(seen_rows, states)]
 
-    sets, set_rows = number_states(_closed((0,), unseen), moves_of, MOST_STATES)
-    return least(("table", set_rows, ends_of_sets(sets, ends)))
+    return least(table_of_sets(_closed((0,), unseen), moves_of, ends))
 
 
 def _closed(states, unseen):

@@ -188,6 +188,11 @@ def summed(kind, other, label, number):
     return f"{kind} {other} {label} {number} {total}\n"
 
 
+def lines(*parts):
+    """The journal of these records, each told as in "p b x 1"."""
+    return "".join(summed(*part.split()[:3], int(part.split()[3])) for part in parts)
+
+
 def random_machines(seed, many):
     """Machines of one party a, which sends to b and c and takes from them."""
     actions = [("a", "b", "x"), ("a", "b", "y"), ("a", "c", "x"), ("b", "a", "x"), ("b", "a", "y"), ("c", "a", "x")]

@@ -18,7 +18,8 @@ BUILTINS = """len range enumerate zip min max sum abs sorted reversed int str bo
 any all divmod ValueError KeyError""".split()
 METHODS = """append clear copy count endswith extend find get index insert isalnum isalpha isdigit islower isspace
 isupper items join keys ljust lower lstrip partition pop remove replace reverse rfind rjust rpartition rsplit rstrip
-setdefault split splitlines startswith strip update upper values zfill bit_length add discard""".split()
+setdefault split splitlines startswith strip update upper values zfill bit_length add discard removeprefix
+removesuffix""".split()
 WORDS = """register mro elements open input law version_info with_traceback add_note attrgetter breakpoint builtins
 compile copyright credits delattr dir eval exec exit gc globals help id importlib license locals methodcaller os quit
 sys type vars typing typing_extensions enum Enum IntEnum StrEnum Flag IntFlag Generic Protocol ABC ABCMeta namedtuple

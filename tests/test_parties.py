@@ -5,7 +5,7 @@ from pactloom.errors import NotPossible, PactError
 from pactloom.journals import record
 from pactloom.parties import Party, recover
 from pactloom.views import machine_of
-from players import Plain, chances, random_act, random_machines, random_message, table_from, told
+from players import Plain, chances, lines, random_act, random_machines, random_message, table_from, told
 
 # What b sees: it asks a or c, or hears from them.
 TABLE = table_from("loop {choice {b -> a: x; a -> b: y | b -> c: x; c -> b: y | a -> b: x | a -> b: z | c -> b: x; b -> a: z}}")
@@ -14,11 +14,6 @@ MACHINE = machine_of(TABLE, "b")
 
 def party_b():
     return Party("b", MACHINE)
-
-
-def lines(*parts):
-    """The journal of these records, each told as in "p b x 1"."""
-    return "".join(record(*part.split()[:3], int(part.split()[3])) for part in parts)
 
 
 class TestStart(unittest.TestCase):
