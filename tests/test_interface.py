@@ -30,6 +30,14 @@ FUNCTIONS = {
         "refining_fault": ["first", "second", "party"],
         "judge_refining": ["first", "second", "party", "certificate"],
     },
+    "conducting": {"conduct": ["table", "conductor"]},
+    "auditing": {"audit": ["journals"]},
+    "slimming": {"slim": ["party"], "recover_slots": ["name", "machine", "old", "new"]},
+    "papers": {"write_paper": ["certificate"], "read_paper": ["text"]},
+    "combining": {"beside": ["one", "other"], "behind": ["one", "other"]},
+    "guiding": {"distances": ["table"], "homeward": ["table", "state"], "finish": ["play", "table"]},
+    "tidying": {"tidy": ["body"]},
+    "storing": {"write_table": ["table"], "read_table": ["text"]},
 }
 
 # The arguments of a class are those of its __init__.
